@@ -1,0 +1,1 @@
+"""Keepheap: objects that are kept by what names them."""
