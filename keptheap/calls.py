@@ -1,11 +1,7 @@
-"""The calls, one function each: it changes the heap and gives back the number that is answered."""
+"""The calls that change what is named, one function each: it gives back the number that is answered."""
 
+from keptheap.refusals import FULL, NO_SUCH_SLOT, OUT_OF_RANGE, roots_refusal
 from keptheap.state import KINDS, MOST_ENTRIES, MOST_OBJECTS, MOST_SLOTS, ROOTS, WEAK_NAMES
-
-OUT_OF_RANGE = -1
-FULL = -2
-EMPTY_ROOT = -3
-NO_SUCH_SLOT = -5
 
 
 def point_root(heap, r, named):
@@ -41,10 +37,9 @@ def drop_root(heap, r):
 
 def slot_refusal(heap, r, k, t):
     """Why slot k of root r's object and root t can't be used, or 0 if they can."""
-    if r >= ROOTS or t >= ROOTS:
-        return OUT_OF_RANGE
-    if heap.roots[r] is None:
-        return EMPTY_ROOT
+    refusal = roots_refusal(heap, [r], [t])
+    if refusal < 0:
+        return refusal
     if k >= len(heap.slots[heap.roots[r]]):
         return NO_SUCH_SLOT
     return 0
@@ -67,13 +62,6 @@ def put_slot(heap, r, k, t):
     return 0
 
 
-def same_object(heap, r, t):
-    """Tell whether both roots name one object, or both are empty."""
-    if r >= ROOTS or t >= ROOTS:
-        return OUT_OF_RANGE
-    return 1 if heap.roots[r] == heap.roots[t] else 0
-
-
 def set_weak(heap, w, r, kind):
     """Weak name w names what root r names, and is of that kind."""
     if w >= WEAK_NAMES or r >= ROOTS or kind >= KINDS:
@@ -92,10 +80,9 @@ def deref_weak(heap, w, r):
 
 def bind_entry(heap, t, k, v):
     """The entry in root t's object for root k's object has root v's object; if v is empty, there is none."""
-    if t >= ROOTS or k >= ROOTS or v >= ROOTS:
-        return OUT_OF_RANGE
-    if heap.roots[t] is None or heap.roots[k] is None:
-        return EMPTY_ROOT
+    refusal = roots_refusal(heap, [t, k], [v])
+    if refusal < 0:
+        return refusal
     entry = (heap.roots[t], heap.roots[k])
     # An empty value adds no entry, so it is never refused for there being too many.
     if heap.roots[v] is None:
@@ -105,3 +92,29 @@ def bind_entry(heap, t, k, v):
         return FULL
     heap.entries[entry] = heap.roots[v]
     return 0
+
+
+def find_entry(heap, t, k, r):
+    """Root r names the value of the entry in root t's object for root k's object."""
+    refusal = roots_refusal(heap, [t, k], [r])
+    if refusal < 0:
+        return refusal
+    return point_root(heap, r, heap.entries.get((heap.roots[t], heap.roots[k])))
+
+
+def mark_object(heap, r):
+    """Root r's object is marked."""
+    refusal = roots_refusal(heap, [r], [])
+    if refusal < 0:
+        return refusal
+    heap.marked[heap.roots[r]] = True
+    return 0
+
+
+def hand_back(heap, r):
+    """Root r names the first that waits, which waits no more."""
+    if r >= ROOTS:
+        return OUT_OF_RANGE
+    if len(heap.waiting) == 0:
+        return point_root(heap, r, None)
+    return point_root(heap, r, heap.waiting.pop(0))

@@ -1,4 +1,4 @@
-"""What there is on a line: objects and their slots, roots, weak names and entries."""
+"""What there is on a line: objects and their slots, roots, weak names, entries, marks and those that wait."""
 
 ROOTS = 12
 WEAK_NAMES = 12
@@ -19,6 +19,8 @@ class Heap:
         self.weak_names = [None] * WEAK_NAMES
         self.weak_kinds = [SHORT] * WEAK_NAMES
         self.entries = {}
+        self.marked = {}
+        self.waiting = []
 
     def add_object(self, n):
         """Make an object with n empty slots and give back its number."""

@@ -7,6 +7,9 @@ from keptheap.state import Heap
 
 BIGGEST = 4294967295
 
+# The calls that answer more than one number, if they aren't refused: count, told and path.
+ROWS = (14, 15, 18)
+
 
 def make(r, n):
     return [1, r, n]
@@ -44,6 +47,42 @@ def bind(t, k, v):
     return [9, t, k, v]
 
 
+def find(t, k, r):
+    return [10, t, k, r]
+
+
+def mark(r):
+    return [11, r]
+
+
+def hand(r):
+    return [12, r]
+
+
+def collect():
+    return [13]
+
+
+def count():
+    return [14]
+
+
+def told(r):
+    return [15, r]
+
+
+def holds(r, t):
+    return [16, r, t]
+
+
+def alone(r):
+    return [17, r]
+
+
+def path(r, t):
+    return [18, r, t]
+
+
 def flat(calls):
     return [number for call in calls for number in call]
 
@@ -63,15 +102,25 @@ def split(given, count):
     return found
 
 
+def in_form(call, answer):
+    """The answer as a plain number, or as a list where count, told or path tell; it must be as long as it says."""
+    if any(type(number) is not int for number in answer):
+        raise AssertionError(f"not whole numbers: {answer}")
+    if answer[0] < 0 or call[0] not in ROWS:
+        length = 1
+    else:
+        length = {14: 4, 15: answer[0] + 2, 18: answer[0] + 1}[call[0]]
+    if len(answer) != length or min(answer[1:], default=0) < 0:
+        raise AssertionError(f"not an answer of {call}: {answer}")
+    return answer if answer[0] >= 0 and call[0] in ROWS else answer[0]
+
+
 def ask(*calls):
-    """The calls' answers as plain numbers; each must be one number alone."""
+    """The calls' answers, a number each, or a list where count, told or path tell."""
     if len(calls) > 80:
         raise AssertionError("a line has at most 80 calls")
     found = split(answers(flat(calls)), len(calls))
-    for answer in found:
-        if len(answer) != 1 or type(answer[0]) is not int:
-            raise AssertionError(f"not one whole number alone: {answer}")
-    return [answer[0] for answer in found]
+    return [in_form(call, answer) for call, answer in zip(calls, found, strict=True)]
 
 
 def ask_after(before, *calls):
